@@ -1,0 +1,1 @@
+"""Everybody's best place: which child gets which school."""
