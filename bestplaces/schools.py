@@ -1,4 +1,4 @@
-"""Places at schools: the fair ones in which every child has its best place."""
+"""Places at schools: the fair ones in which every child has its best place, and whether places told are fair."""
 
 MOST_SCHOOLS = 32
 MOST_CHILDREN = 256
@@ -149,3 +149,69 @@ def places(schools, children, nothing):
     kept = best_kept(read_schools(schools), child_list)
     place = place_of_each(kept, len(child_list))
     return [len([school for school in place if school != NO_SCHOOL])] + place
+
+
+def first_unwished(children, place):
+    for row, child in enumerate(children):
+        if place[row] != NO_SCHOOL and place[row] not in child.school:
+            return [1, row, NO_SCHOOL]
+    return None
+
+
+def applicant_at(school, row, child):
+    return Applicant(row, child, child.school.index(school))
+
+
+# Only for places without an unwished one: at a school that wasn't wished for, a child has no score.
+def those_at_each(school_count, children, place):
+    there = [[] for school in range(school_count)]
+    for row, child in enumerate(children):
+        if place[row] != NO_SCHOOL:
+            there[place[row]].append(applicant_at(place[row], row, child))
+    return there
+
+
+def first_overfull(schools, there):
+    for number, school in enumerate(schools):
+        if len(there[number]) > school.seats:
+            return [2, number, len(there[number])]
+    return None
+
+
+# Only for places without an unwished one. None, too, is found where it stands: behind the last wish,
+# or nowhere, if there are eight wishes.
+def rather_wished(child, place):
+    if place in child.school:
+        return child.school[:child.school.index(place)]
+    return child.school
+
+
+def would_take(school, there, applicant):
+    line = in_seat_order(school, there + [applicant])
+    return applicant.row in [other.row for other in line[:school.seats]]
+
+
+def first_better(schools, children, place, there):
+    for row, child in enumerate(children):
+        for wished in rather_wished(child, place[row]):
+            if would_take(schools[wished], there[wished], applicant_at(wished, row, child)):
+                return [3, row, wished]
+    return None
+
+
+def check(schools, children, place):
+    if refused(schools, children):
+        return [-22]
+    school_list = read_schools(schools)
+    child_list = read_children(children)
+    unwished = first_unwished(child_list, place)
+    if unwished is not None:
+        return unwished
+    there = those_at_each(len(school_list), child_list, place)
+    overfull = first_overfull(school_list, there)
+    if overfull is not None:
+        return overfull
+    better = first_better(school_list, child_list, place, there)
+    if better is not None:
+        return better
+    return [0]

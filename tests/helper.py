@@ -75,19 +75,63 @@ def taken(a_school, where, those):
     return got
 
 
+def there(children, place, where):
+    """Those who have a place at school number where."""
+    return [one for one, has in zip(children, place) if has == where]
+
+
+def would_rather(one, where, place):
+    """Whether a child would rather have school number where than its place."""
+    wishes = wishes_of(one)
+    if where not in wishes:
+        return False
+    return place == NONE or place not in wishes or wishes.index(where) < wishes.index(place)
+
+
+def unwished(children, place):
+    """The rows of all children that have a place they didn't wish for, in their order."""
+    for row, one in enumerate(children):
+        if place[row] != NONE and place[row] not in wishes_of(one):
+            yield row
+
+
+def overfull(schools, children, place):
+    """All schools with more children than seats, by their numbers, and how many each has."""
+    for where, a_school in enumerate(schools):
+        count = len(there(children, place, where))
+        if count > a_school[0]:
+            yield where, count
+
+
+def better(schools, children, place):
+    """All children and wishes of which a child would rather have the wish and would be taken."""
+    for row, one in enumerate(children):
+        for where in wishes_of(one):
+            if would_rather(one, where, place[row]):
+                together = there(children, place, where) + [one]
+                if one in taken(schools[where], where, together):
+                    yield row, where
+
+
+def has_none(found):
+    return next(found, None) is None
+
+
 def is_fair(schools, children, place):
-    for one, where in zip(children, place):
-        if where != NONE and where not in wishes_of(one):
-            return False
-    there = [[one for one, where in zip(children, place) if where == k] for k in range(len(schools))]
-    for k, a_school in enumerate(schools):
-        if len(there[k]) > a_school[0]:
-            return False
-    for one, where in zip(children, place):
-        for wished in wishes_of(one)[:rank(one, where)]:
-            if one in taken(schools[wished], wished, there[wished] + [one]):
-                return False
-    return True
+    return (has_none(unwished(children, place))
+            and has_none(overfull(schools, children, place))
+            and has_none(better(schools, children, place)))
+
+
+def plain_check(schools, children, place):
+    """What check is to answer: the first fault of the first kind that there is."""
+    for row in unwished(children, place):
+        return [1, row, NONE]
+    for where, count in overfull(schools, children, place):
+        return [2, where, count]
+    for row, where in better(schools, children, place):
+        return [3, row, where]
+    return [0]
 
 
 def all_fair(schools, children):
@@ -122,3 +166,21 @@ def some_input(draw, most_schools=3, most_children=5, groups=3, scores=4):
 def some_child(draw, number, school_count, groups=3, scores=4):
     wished = draw.sample(range(school_count), draw.choice([0] + [school_count] * 3 + [1]))
     return child(number, [(k, draw.randrange(scores)) for k in wished], draw.randrange(1 << groups))
+
+
+def some_place(draw, schools, children):
+    """Some places: mostly wished ones, now and then one that isn't, or at a school that isn't there."""
+    strays = list(range(len(schools) + 1)) + [254]
+    return [draw.choice(strays) if draw.randrange(20) == 0 else draw.choice(wishes_of(one) + [NONE])
+            for one in children]
+
+
+def nearly(draw, children, place):
+    """The places told but for one child, or for two that change theirs."""
+    place = list(place)
+    row, other = draw.randrange(len(place)), draw.randrange(len(place))
+    if draw.randrange(2):
+        place[row], place[other] = place[other], place[row]
+    else:
+        place[row] = draw.choice(wishes_of(children[row]) + [NONE])
+    return place

@@ -4,8 +4,8 @@ import random
 import time
 import unittest
 
-from bestplaces.schools import places
-from helper import NONE, child, flat, is_fair, school
+from bestplaces.schools import check, places
+from helper import NONE, child, flat, is_fair, plain_check, school
 
 SECONDS = 10
 TOP = 2 ** 32 - 1
@@ -21,6 +21,15 @@ class Largest(unittest.TestCase):
         self.assertEqual(len(answer), 257)
         self.assertEqual(answer[0], len([where for where in answer[1:] if where != NONE]))
         self.assertTrue(is_fair(schools, children, answer[1:]))
+        self.assertEqual(self.checked_in_time(schools, children, answer[1:]), [0])
+        return answer
+
+    def checked_in_time(self, schools, children, place):
+        handed = (flat(schools), flat(children))
+        start = time.perf_counter()
+        answer = check(handed[0], handed[1], place)
+        self.assertLess(time.perf_counter() - start, SECONDS)
+        self.assertEqual(answer, plain_check(schools, children, place))
         return answer
 
     def test_drawn(self):
@@ -59,6 +68,24 @@ class Largest(unittest.TestCase):
         children = [child(k, [((k + j) % 32, k) for j in range(8)], k) for k in range(256)]
         answer = self.answered_in_time(schools, children)
         self.assertEqual(answer, [256] + [k % 32 for k in range(256)])
+
+    def test_check_finds_the_last_fault(self):
+        # All schools are full in all but the last wishes of the last child, so all else is gone through first.
+        schools = [school(31, {group: 3 for group in range(8)}) for k in range(32)]
+        children = [child(k, [(where, 1000 - k) for where in range(8)]) for k in range(255)]
+        children.append(child(255, [(where, 1000 - 255) for where in range(7)] + [(31, 0)]))
+        place = places(flat(schools), flat(children), [])[1:]
+        self.assertEqual(place[255], 31)
+        self.assertEqual(self.checked_in_time(schools, children, place), [0])
+        place[255] = NONE
+        self.assertEqual(self.checked_in_time(schools, children, place), [3, 255, 31])
+
+    def test_check_of_all_at_one(self):
+        schools = [school(64) for k in range(32)]
+        children = [child(k, [(where, k) for where in range(24, 32)]) for k in range(256)]
+        self.assertEqual(self.checked_in_time(schools, children, [31] * 256), [2, 31, 256])
+        self.assertEqual(self.checked_in_time(schools, children, [31] * 255 + [0]), [1, 255, NONE])
+        self.assertEqual(self.checked_in_time(schools, children, [NONE] * 256), [3, 0, 24])
 
 
 if __name__ == "__main__":

@@ -1,8 +1,8 @@
-"""The refusal -22: each reason by itself, just beyond and just within its bound."""
+"""The refusal -22 of both calls: each reason by itself, just beyond and just within its bound."""
 
 import unittest
 
-from bestplaces.schools import places
+from bestplaces.schools import check, places
 from helper import NONE, child, flat, school
 
 TOP = 2 ** 32 - 1
@@ -16,9 +16,15 @@ def wish_rows(number, wished, scores, groups=0):
 class RefusalCase(unittest.TestCase):
     def refused(self, schools, children):
         self.assertEqual(places(flat(schools), flat(children), []), [-22])
+        # Check refuses whatever the places told, those at no school and at one that isn't there too.
+        for where in (0, 1, len(schools), 254, NONE):
+            self.assertEqual(check(flat(schools), flat(children), [where] * len(children)), [-22])
 
     def answered(self, schools, children, expected):
         self.assertEqual(places(flat(schools), flat(children), []), expected)
+        self.assertEqual(check(flat(schools), flat(children), expected[1:]), [0])
+        if children:
+            self.assertEqual(check(flat(schools), flat(children), [254] * len(children)), [1, 0, NONE])
 
 
 class HowMany(RefusalCase):

@@ -1,11 +1,12 @@
-"""Promise 1 and "What holds", a to e, against a plain search over all places."""
+"""Promises 1 and 2, and "What holds", a to e, against a plain search over all places."""
 
 import itertools
 import random
 import unittest
 
-from bestplaces.schools import places
-from helper import NONE, all_fair, best_of, child, flat, rank, school, some_child, some_input
+from bestplaces.schools import check, places
+from helper import (NONE, all_fair, best_of, child, flat, nearly, plain_check, rank, school, some_child, some_input,
+                    some_place)
 
 
 def crossed_input(draw):
@@ -66,7 +67,90 @@ class BestOfAllFair(unittest.TestCase):
                     self.assertEqual([where == NONE for where in place], [where == NONE for where in other])
 
 
+class CheckOfAllPlaces(unittest.TestCase):
+    def held_against_search(self, schools, children):
+        """Every way to give places, at a school that isn't there too; how often each number was answered."""
+        count = {0: 0, 1: 0, 2: 0, 3: 0}
+        numbers = (flat(schools), flat(children))
+        fair = set(all_fair(schools, children))
+        for place in itertools.product(list(range(len(schools) + 1)) + [NONE], repeat=len(children)):
+            answer = check(numbers[0], numbers[1], list(place))
+            count[answer[0]] += 1
+            if answer != plain_check(schools, children, place) or (answer == [0]) != (place in fair):
+                self.fail((schools, children, place, answer))
+        return count
+
+    def test_drawn_inputs(self):
+        draw = random.Random(31)
+        total = {0: 0, 1: 0, 2: 0, 3: 0}
+        for turn in range(250):
+            count = self.held_against_search(*some_input(draw, most_children=4))
+            total = {number: total[number] + count[number] for number in total}
+        self.assertGreater(min(total.values()), 200)
+
+    def test_drawn_inputs_with_several_fair_ways(self):
+        draw = random.Random(32)
+        several = 0
+        for turn in range(40):
+            several += self.held_against_search(*crossed_input(draw))[0] > 1
+        self.assertGreater(several, 4)
+
+    def test_all_groups_at_one_school(self):
+        for groups in itertools.product(range(4), repeat=3):
+            for held in ({}, {0: 1}, {1: 1}, {0: 2}, {1: 2}, {0: 1, 1: 1}):
+                children = [child(9 - k, [(0, k)], groups=mine) for k, mine in enumerate(groups)]
+                self.held_against_search([school(2, held)], children)
+
+
+class CheckOfSomePlaces(unittest.TestCase):
+    def held_against_search(self, schools, children, place):
+        answer = check(flat(schools), flat(children), place)
+        with self.subTest(schools=schools, children=children, place=place):
+            self.assertEqual(answer, plain_check(schools, children, place))
+        return answer
+
+    def test_what_places_answers_is_fair(self):
+        draw = random.Random(33)
+        for turn in range(500):
+            schools, children = some_input(draw, most_schools=6, most_children=15)
+            answer = self.held_against_search(schools, children, place_of(schools, children))
+            self.assertEqual(answer, [0])
+
+    def test_nearly_those(self):
+        draw = random.Random(34)
+        answered = []
+        for turn in range(1000):
+            schools, children = some_input(draw, most_schools=6, most_children=15, groups=8)
+            place = nearly(draw, children, place_of(schools, children))
+            answered.append(self.held_against_search(schools, children, place)[0])
+        for number in (0, 1, 2, 3):
+            self.assertGreater(answered.count(number), 50)
+
+    def test_any(self):
+        draw = random.Random(35)
+        answered = []
+        for turn in range(1000):
+            schools, children = some_input(draw, most_schools=6, most_children=8)
+            answered.append(self.held_against_search(schools, children, some_place(draw, schools, children))[0])
+        for number in (0, 1, 2, 3):
+            self.assertGreater(answered.count(number), 10)
+
+
 class WhatHolds(unittest.TestCase):
+    def test_best_and_the_same_seats_of_all_that_check_finds_fair(self):
+        draw = random.Random(36)
+        for turn in range(150):
+            schools, children = some_input(draw, most_children=4) if turn % 2 else crossed_input(draw)
+            place = place_of(schools, children)
+            numbers = (flat(schools), flat(children))
+            ways = itertools.product(list(range(len(schools))) + [NONE], repeat=len(children))
+            for fair in [list(way) for way in ways if check(numbers[0], numbers[1], list(way)) == [0]]:
+                with self.subTest(schools=schools, children=children, fair=fair):
+                    self.assertEqual(sorted(fair), sorted(place))
+                    for one, best, other in zip(children, place, fair):
+                        self.assertLessEqual(rank(one, best), rank(one, other))
+                        self.assertEqual(best == NONE, other == NONE)
+
     def test_nobody_gains_by_other_wishes(self):
         draw = random.Random(4)
         for turn in range(120):
