@@ -178,7 +178,7 @@ def first_overfull(schools, there):
     return None
 
 
-# Only for places without an unwished one. None, too, is found where it stands: behind the last wish,
+# Only for places without an unwished one. A place of 255 is found, too, where it stands: behind the last wish,
 # or nowhere, if there are eight wishes.
 def rather_wished(child, place):
     if place in child.school:
